@@ -1,0 +1,1 @@
+"""Cut runs: whether moments of threads with locks can come one behind another."""
