@@ -182,7 +182,7 @@ class PathTest(Case):
     def test_paths_that_are_not_there(self):
         missing = [
             [4], [0, 0, 3], [0, 1, 0], [1, 0, 1], [1, 2, 0], [2, 0, 0], [2, 2, 0], [3, 0, 0], [0, 0, 0, 0, 0],
-            [0, 0, 2, 1, 0], [10 ** 29], [1, 10 ** 29, 0], [0] * 13, (4,), (3, 0, 0),
+            [0, 0, 2, 1, 0], [10 ** 29], [1, 10 ** 29, 0], [0] * 13, (4,), (3, 0, 0), [4, 0, 0], [9, 1, 0],
         ]
         for path in missing:
             self.fails(NoSuchPath, {"path": path}, at_path, WIDE, MIXED, path)
