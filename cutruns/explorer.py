@@ -1,12 +1,12 @@
 """All schedules whose stacks keep within a depth."""
 
-from cutruns.basics import is_below, is_count, is_list, is_tuple_of
-from cutruns.errors import InvalidDeep, InvalidGoal, TooMany
+from cutruns.basics import is_count
+from cutruns.errors import InvalidDeep, TooMany
 from cutruns.machine import Machine
+from cutruns.moments import check_goal
 
 MOST_STATES = 3000
 MOST_DEEP = 6
-MOST_GOALS = 4
 
 
 def states_of(program, deep):
@@ -33,7 +33,7 @@ def meets(state, goal):
 def first_schedule(program, goal, deep):
     """The first schedule to the goal, None if it isn't met within the depth."""
     machine = Machine(program)
-    _check_goal(machine, goal)
+    check_goal(machine, goal)
     _check_deep(deep)
     came = _reached_states(machine, deep)
     for state in came:
@@ -45,25 +45,6 @@ def first_schedule(program, goal, deep):
 def _check_deep(deep):
     if not is_count(deep) or not 1 <= deep <= MOST_DEEP:
         raise InvalidDeep(deep)
-
-
-def _check_goal(machine, goal):
-    if not _is_goal(machine, goal):
-        raise InvalidGoal(goal)
-
-
-def _is_goal(machine, value):
-    if not is_list(value) or not 1 <= len(value) <= MOST_GOALS:
-        return False
-    if not all([_is_standing(machine, one) for one in value]):
-        return False
-    return len({thread for thread, _ in value}) == len(value)
-
-
-def _is_standing(machine, value):
-    if not is_tuple_of(value, 2):
-        return False
-    return is_below(value[0], len(machine.homes)) and is_below(value[1], machine.flow.places)
 
 
 def _reached_states(machine, deep):

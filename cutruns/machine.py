@@ -138,12 +138,17 @@ def _is_owner(value, thread):
 
 def _lets(move, mode, owners):
     _, kind, what, _ = move
+    if kind == "take":
+        return owners[what] is None
+    return mode_lets(kind, what, mode)
+
+
+def mode_lets(kind, what, mode):
+    """Whether the mode lets a move of this kind."""
     if kind == "is":
         return mode == what
     if kind == "not":
         return mode != what
-    if kind == "take":
-        return owners[what] is None
     return True
 
 

@@ -31,3 +31,19 @@ class Case(unittest.TestCase):
 
     def is_false(self, value):
         self.assertIs(value, False)
+
+
+# Values that are odd wherever a COUNT, a string, a tuple or a list is wanted.
+ODD = (None, True, False, -1, "", "0", b"0", {}, {0: 0}, [None], (None,), object, 10 ** 29)
+
+
+def bent(value):
+    """The values that come of a right one by an odd one in the place of one part, or by a list where a tuple stands."""
+    yield from [odd for odd in ODD if repr(odd) != repr(value)]
+    if isinstance(value, (list, tuple)):
+        for at, part in enumerate(value):
+            for other in bent(part):
+                changed = [*value[:at], other, *value[at + 1:]]
+                yield changed if isinstance(value, list) else tuple(changed)
+    if isinstance(value, tuple):
+        yield list(value)

@@ -1,0 +1,49 @@
+"""That each function and class of the interface is defined in its own file, with its arguments."""
+
+import importlib
+import inspect
+import re
+import unittest
+
+LISTED = {
+    "basics": "is_integer(value) is_count(value)",
+    "statements": "is_shape(value) is_body(shape, value) size_of(shape, body) locks_in(shape, body) calls_in(shape, body) "
+    "paths_of(shape, body) at_path(shape, body, path) with_path(shape, body, path, part)",
+    "programs": "Program(locks, cells, modes, bodies, threads) with_threads(program, threads)",
+    "readers": "program_text(program) program_of(text)",
+    "flows": "Flow(program)",
+    "callings": "calls_of(program) is_recursive(program) reached(program, thread) deepest(program) dead_places(program)",
+    "machine": "begin_state(program) is_state(program, value) events(program, state) done(program, state, event) "
+    "replayed(program, schedule) is_schedule(program, value) has_ended(program, state, thread) "
+    "stands_at(program, state, thread) row_of(program, state, thread) is_still(program, state) blocks_at(program, place)",
+    "explorer": "states_of(program, deep) stills_of(program, deep) meets(state, goal) first_schedule(program, goal, deep)",
+    "rows": "is_moments(program, value) row_threads(program, row) one_goal(program, goal) "
+    "is_fitting(program, thread, row, value)",
+    "words": "word_of(program, thread, runs) state_of(program, thread, runs) is_word(program, value) legs_of(word) "
+    "held_at(word, leg) then_word(word, other)",
+    "orders": "are_words(value) nodes_of(words, leg) arrows_of(words, leg) agree(words) order_of(words) bar_of(words) "
+    "is_order(words, value) is_bar(words, value)",
+    "throughs": "throughs(program, thread, row) length_through(program, thread, row, through) "
+    "run_through(program, thread, row, through) is_run_through(program, thread, row, through, value)",
+    "ends": "ends(program, thread, row) length_to(program, thread, row, word) run_to(program, thread, row, word)",
+}
+METHODS = {
+    ("programs", "Program"): "bodies threads shape __eq__ locks cells modes",
+    ("flows", "Flow"): "moves moves_from begin_of end_of procedure_of place_ahead places many_moves",
+}
+
+
+class InterfaceTest(unittest.TestCase):
+    def test_functions_and_classes(self):
+        for file, listed in LISTED.items():
+            module = importlib.import_module("cutruns." + file)
+            for name, told in re.findall(r"(\w+)\((.*?)\)", listed):
+                thing = getattr(module, name)
+                self.assertEqual(thing.__module__, module.__name__, name)
+                self.assertEqual(list(inspect.signature(thing).parameters), told.split(", "), name)
+
+    def test_methods(self):
+        for (file, name), listed in METHODS.items():
+            made = getattr(importlib.import_module("cutruns." + file), name)
+            for method in listed.split():
+                self.assertIn(method, vars(made))
