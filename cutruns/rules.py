@@ -111,7 +111,8 @@ class Rules:
             _, kind, what, far = self.machine.steps[number]
             if kind == "call" and not self.wishes.is_banned(phase, number):
                 found.append(((what, phase, mode), (far, stem, (number,))))
-                if self.wishes.wants_behind(phase, number) and phase + 1 < self.many_legs:
+                # Behind the last leg no through begins, so nothing comes of a cut at its end.
+                if self.wishes.wants_behind(phase, number):
                     cut = self.store.lay(stem, self.one_cut)
                     found.append(((what, phase + 1, mode), (far, cut, (number, None))))
         return found

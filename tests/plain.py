@@ -201,3 +201,37 @@ def any_run(told, program, thread, legs, most):
     cuts = sorted([told.randrange(len(numbers) + 1) for _ in range(legs - 1)])
     bounds = (0, *cuts, len(numbers))
     return [numbers[near:far] for near, far in zip(bounds, bounds[1:])]
+
+
+def fewest_events(program, row, deep, most):
+    """The fewest events of schedules that meet the row, by the plain machine, stacks being at most so deep.
+
+    A tuple of them, None if there are none, and whether all schedules were looked through: not if one has a deeper
+    stack, nor if there are more than so many states.
+    """
+    machine, legs, threads = Machine(program), len(row), range(len(program.threads()))
+    level = [(machine.first(), 0, (None,) * len(threads))]
+    seen, whole, events = set(level), True, 0
+    while level and len(seen) <= most:
+        later = []
+        for state, leg, last in level:
+            # As many cuts as can be made here: more of them are no event more.
+            while leg < legs and all([is_so(row, leg, thread, state[0][thread][0], state[0][thread][1][-1], [last[thread]]) for thread in threads]):
+                later.extend(steps_from(machine, row, state, leg, last))
+                leg, last = leg + 1, (None,) * len(threads)
+            if leg == legs:
+                return events, whole
+            later.extend(steps_from(machine, row, state, leg, last))
+        found = [one for one in later if max([len(stack) for _, stack in one[0][0]]) <= deep]
+        whole = whole and len(found) == len(later)
+        level = sorted(set(found) - seen, key=repr)
+        seen.update(level)
+        events += 1
+    return None, whole and not level
+
+
+def steps_from(machine, row, state, leg, last):
+    """What comes of the state, the leg and the last numbers of the threads in it, by one event."""
+    for thread, number in machine.possible(state):
+        if (thread, number) not in row[leg][1]:
+            yield machine.after(state, (thread, number)), leg, (*last[:thread], number, *last[thread + 1:])

@@ -26,6 +26,11 @@ LISTED = {
     "throughs": "throughs(program, thread, row) length_through(program, thread, row, through) "
     "run_through(program, thread, row, through) is_run_through(program, thread, row, through, value)",
     "ends": "ends(program, thread, row) length_to(program, thread, row, word) run_to(program, thread, row, word)",
+    "weaving": "pieces_of(program, thread, runs) woven(program, runs) is_woven(program, runs, value) apart(program, legs)",
+    "meetings": "can_meet(program, row) meeting_length(program, row) meeting(program, row) is_meeting(program, row, value)",
+    "tables": "least_table(program, row) is_table(program, row, value)",
+    "judges": "is_closed(program, row, value) first_lacking(program, row, table) paper_apart(program, row) "
+    "is_apart(program, row, value)",
 }
 METHODS = {
     ("programs", "Program"): "bodies threads shape __eq__ locks cells modes",

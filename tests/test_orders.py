@@ -313,6 +313,10 @@ class BarTest(Case):
             self.is_true(is_bar(TWO, ("ring", 0, tuple(told))))
         for value in (ring[::-1], ring[:3], ring[:2], ring * 2, [*ring, ring[0]], [], ring[:1], [(0, 1, 0), (1, 1, 0)]):
             self.is_false(is_bar(TWO, ("ring", 0, value)))
+        self.is_false(is_bar(TWO, ("ring", 0, ring, 0)))
+        # Nodes ahead of a ring, and behind it, are none of it.
+        words = [word(take(0, 1), take(3), used=(2,)), word(take(1, 0), used=(3,))]
+        self.same([sorted(bar_of(words)[2]), is_bar(words, bar_of(words))], [[(0, 1, 0), (0, 1, 1), (1, 1, 0), (1, 1, 1)], True])
         # Two nodes with no arrow back.
         self.is_false(is_bar([word(take(0)), word(used=(0,))], ("ring", 0, [(1, 0, 1), (0, 1, 0)])))
         self.is_false(is_bar(RING[:2], ("ring", 0, [(0, 1, 0), (0, 1, 1)])))

@@ -16,6 +16,11 @@ AGAIN = Program(1, 0, 1, [(("either", (("hold", 0, ()),), (("call", 0), ("call",
 # Each procedure calls the next one twice, so that the last one is gone through 256 times.
 TWICE = Program(0, 0, 1, [(("call", at + 1),) * 4 for at in range(4)] + [(("skip",),)], [0])
 HOLDS = ("either", (("hold", 0, ()),), (("either", (("hold", 1, ()),), (("either", (("hold", 2, ()),), (("hold", 3, ()),)),)),))
+# For three legs without items it has 19,952 withins; a procedure of n skips has 6 times n + 1.
+LOOPS = (("loop", (
+    ("hold", 0, (("loop", (("skip",),)), ("hold", 2, (("skip",), ("skip",))))),
+    ("loop", (("skip",), ("hold", 1, (("skip",), ("skip",))))),
+)),)
 WIDE = Program(4, 0, 1, [(("loop", (HOLDS,)),)], [0])
 
 
@@ -198,6 +203,9 @@ class RunThroughTest(Case):
             (procedure, phase, mode, late, later, start(REST, REST, used=(0,))),
         ):
             self.is_false(self.goes(through, self.RUN))
+        # It hasn't come to the end, or has a leg that the row doesn't have.
+        for value in ([[3]], [[3], [4]], [[3, 4], []]):
+            self.is_false(is_run_through(DEED, 0, FREE, (1, 0, 0, 0, 1, start()), value))
         # From the mode 1 on it does the same.
         self.is_true(self.goes((procedure, phase, 1, late, later, piece), self.RUN))
 
@@ -252,6 +260,14 @@ class ErrorsTest(Case):
             self.fails(TooMany, told, run_through, WIDE, 0, row, (0, 0, 0, 0, 0, piece))
         self.fails(InvalidThrough, {"value": None}, length_through, WIDE, 0, row, None)
         self.same(len(throughs(WIDE, 0, FREE)), 16)
+
+    def test_just_20000_withins_and_more(self):
+        for many, more in ((7, False), (8, True)):
+            program = Program(3, 0, 1, [LOOPS, (("skip",),) * many], [1])
+            if more:
+                self.fails(TooMany, {"what": "withins", "limit": 20000}, throughs, program, 0, FREE * 3)
+            else:
+                self.assertGreater(len(throughs(program, 0, FREE * 3)), 1000)
 
     def test_which_error_comes_first(self):
         for action, behind in ((throughs, ()), (length_through, (None,)), (run_through, (None,)), (is_run_through, (None, None))):
