@@ -6,7 +6,6 @@ from cutruns.words import then_word
 
 NOTHING = (("start", None, ()),)
 CUT = (("start", None, ()), ("cut", None, ()))
-COMMON = ("step", "touch", "write", "mark", "claim", "set", "is", "not", "take", "give")
 
 
 def then(*pieces):

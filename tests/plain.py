@@ -6,8 +6,6 @@ import random
 from cutruns.machine import Machine
 from cutruns.programs import Program, with_threads
 
-CUT = ("cut", None, ())
-
 
 def body_of(told, shape, depth, left):
     """A body of the shape; left is a list of how many statements there may be yet."""

@@ -7,10 +7,10 @@ from cutruns.programs import Program
 from cutruns.rows import is_fitting
 from cutruns.words import is_word, word_of
 from tests.helper import STRANGE, Case, bent
+from tests.parts import REST, cut, give, start, take
 from tests.plain import any_row, cuts_of, late_mode, local_runs, met_row, plain_word, programs_and_rows
 from tests.test_throughs import TWICE, WIDE
 
-REST = ("cut", None, ())
 FREE = [((), ())]
 # Procedure 0: 0 -take 0-> 2 -call 1-> 4 -mark-> 3 -give-> 1; procedure 1: 5 -take 1-> 7 -step-> 8 -give-> 6.
 # Moves 0 take 0, 1 call 1, 2 mark, 3 give 0, 4 take 1, 5 step, 6 give 1, BACK 7.
@@ -31,22 +31,6 @@ MANY = Program(4, 0, 1, [
     (held(2, 3),),
     (held(3, 0),),
 ], [0, 1])
-
-
-def start(*parts, used=()):
-    return (("start", None, used), *parts)
-
-
-def take(lock, *used):
-    return ("take", lock, used)
-
-
-def give(lock, *used):
-    return ("give", lock, used)
-
-
-def cut(*used):
-    return ("cut", None, used)
 
 
 def at(place):

@@ -11,11 +11,11 @@ from cutruns.programs import Program
 from cutruns.tables import is_table, least_table
 from tests.asked import first_lack, then
 from tests.helper import STRANGE, Case, bent
+from tests.parts import REST, start
 from tests.plain import any_row, met_row, programs_and_rows
 from tests.test_ends import MANY
 from tests.test_throughs import WIDE
 
-REST = ("cut", None, ())
 FREE = [((), ())]
 # Procedure 0: 0 -take 0-> 2 -call 1-> 4 -set 1-> 3 -give 0-> 1; 1: 5 -is 0-> 7 -step-> 6, 5 -not 0-> 8 -take 1-> 9 -> 10 -> 6.
 # Moves 0 take 0, 1 call 1, 2 set 1, 3 give 0, 4 is 0, 5 step, 6 not 0, 7 take 1, 8 step, 9 give 1, BACK 10.
@@ -25,10 +25,6 @@ CALLS = Program(2, 0, 2, [
 ], [0, 1])
 ONE = Program(1, 1, 1, [(("hold", 0, (("touch", 0),)),)], [0, 0])
 BOTH = [(((0, "at", 3), (1, "at", 2)), ())]
-
-
-def start(*parts, used=()):
-    return (("start", None, used), *parts)
 
 
 def at(place):

@@ -8,9 +8,8 @@ from cutruns.orders import agree, are_words, arrows_of, bar_of, is_bar, is_order
 from cutruns.programs import Program
 from cutruns.words import held_at, legs_of, word_of
 from tests.helper import STRANGE, Case, bent
+from tests.parts import REST, cut, give, take
 from tests.plain import any_run, can_be_woven, cuts_of, program_of_seed
-
-REST = ("cut", None, ())
 
 
 def word(*parts, used=()):
@@ -18,21 +17,9 @@ def word(*parts, used=()):
     return (("start", None, used), *parts, REST)
 
 
-def take(lock, *used):
-    return ("take", lock, used)
-
-
-def give(lock, *used):
-    return ("give", lock, used)
-
-
-def cut(*used):
-    return ("cut", None, used)
-
-
 # One used the next one's lock behind taking its own: a ring of all, though each two of three of them agree.
 RING = [word(take(0, 1)), word(take(1, 2)), word(take(2, 0))]
-# The same among gives: they come ahead of the second leg's end, behind uses of what the next one gives.
+# The same among gives: in the second leg each uses the next one's lock, and gives its own one behind that.
 GIVES = [word(take(0), cut(1), give(0)), word(take(1), cut(2), give(1)), word(take(2), cut(0), give(2))]
 TWO = [word(take(0, 1)), word(take(1, 0))]
 LONE = word(cut(0), take(1, 2, 3), cut(0), give(1, 1), take(2, 0), used=(1, 3))

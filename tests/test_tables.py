@@ -10,6 +10,7 @@ from cutruns.tables import is_table, least_table
 from cutruns.throughs import throughs
 from tests.asked import first_lack
 from tests.helper import STRANGE, Case, bent
+from tests.parts import REST, start
 from tests.plain import (
     any_row,
     begin_at,
@@ -24,15 +25,10 @@ from tests.plain import (
 from tests.test_ends import MANY
 from tests.test_throughs import LOOPS, WIDE
 
-REST = ("cut", None, ())
 FREE = [((), ())]
 # Procedure 0: 0 -take 0-> 2 -call 1-> 3 -give-> 1; procedure 1: 4 -set 1-> 5.
 CALLS = Program(2, 0, 2, [(("hold", 0, (("call", 1),)),), (("set", 1),)], [0, 1, 0])
 ROW = [(((2, "at", 3),), ()), (((0, "at", 2),), ((2, 2),))]
-
-
-def start(*parts, used=()):
-    return (("start", None, used), *parts)
 
 
 HELD = start(("take", 0, ()))

@@ -5,9 +5,9 @@ from cutruns.flows import Flow
 from cutruns.programs import Program
 from cutruns.throughs import is_run_through, length_through, run_through, throughs
 from tests.helper import STRANGE, Case, bent
+from tests.parts import REST, start
 from tests.plain import any_row, cuts_of, late_mode, local_runs, met_row, plain_word, programs_and_rows
 
-REST = ("cut", None, ())
 FREE = [((), ())]
 # Procedure 0: 0 -take 0-> 2 -call 1-> 3 -give-> 1; procedure 1: 4 -set 1-> 6 -touch-> 5. BACK is 5.
 DEED = Program(1, 1, 2, [(("hold", 0, (("call", 1),)),), (("set", 1), ("touch", 0))], [0, 1])
@@ -22,10 +22,6 @@ LOOPS = (("loop", (
     ("loop", (("skip",), ("hold", 1, (("skip",), ("skip",))))),
 )),)
 WIDE = Program(4, 0, 1, [(("loop", (HOLDS,)),)], [0])
-
-
-def start(*parts, used=()):
-    return (("start", None, used), *parts)
 
 
 def plain_throughs(program, row, thread, most):

@@ -18,7 +18,7 @@ from cutruns.programs import Program
 from cutruns.weaving import apart, is_woven, pieces_of, woven
 from cutruns.words import word_of
 from tests.helper import STRANGE, Case, bent
-from tests.plain import any_row, any_run, cuts_of, local_runs, programs_and_rows
+from tests.plain import any_row, cuts_of, local_runs, programs_and_rows
 from tests.test_orders import words_and_runs
 
 # One hold behind the other, and one within the other, of the locks 0 and 1; the threads go the other way round.

@@ -7,10 +7,9 @@ from cutruns.flows import Flow
 from cutruns.programs import Program
 from cutruns.words import held_at, is_word, legs_of, state_of, then_word, word_of
 from tests.helper import STRANGE, Case, bent
+from tests.parts import REST, cut, give, start, take
 from tests.plain import any_row, cuts_of, local_runs, plain_word, programs_and_rows
 
-NOTHING = ("start", None, ())
-REST = ("cut", None, ())
 # 0 -take 0-> 2 -take 1-> 4 -mark-> 5 -give 1-> 3 -give 0-> 1.
 NESTED = Program(2, 0, 1, [(("hold", 0, (("hold", 1, (("mark", 0),)),)),)], [0, 0])
 # One hold behind the other: moves 0 take 0, 1 step, 2 give 0, 3 take 1, 4 step, 5 give 1, 6 take 0, 7 step, 8 give 0.
@@ -19,23 +18,6 @@ ROW = Program(2, 0, 1, [(("hold", 0, ()), ("hold", 1, ()), ("hold", 0, ()))], [0
 SELF = Program(1, 0, 2, [(("hold", 0, (("call", 0),)),)], [0])
 ROUND = Program(0, 0, 1, [(("loop", (("skip",),)),)], [0])
 FULL = Program(4, 0, 1, [()], [0])
-
-
-def start(*parts, used=()):
-    return (("start", None, used), *parts)
-
-
-def take(lock, *used):
-    return ("take", lock, used)
-
-
-def give(lock, *used):
-    return ("give", lock, used)
-
-
-def cut(*used):
-    return ("cut", None, used)
-
 
 # Words that are right, and pieces that are right but no words.
 WORDS = (
@@ -55,7 +37,7 @@ NEITHER = (
     start(take(0), take(1), cut(), give(0)), start(take(0), take(1), cut(), give(1, 0)), start(take(0), cut(), cut(), take(0)),
     start(used=(1, 0)), start(used=(0, 0)), start(used=(4,)), start(take(4)), start(give(4)), start(("keep", 0, ())),
     (("start", 0, ()),), start(("cut", 0, ())), start(("take", None, ())), start(("give", None, ())), start(("take", 0)),
-    start(("take", 0, (), ())), [NOTHING], start(["take", 0, ()]), start(take(0), give(2), REST), start(take(0), take(0, 1), REST),
+    start(("take", 0, (), ())), [("start", None, ())], start(["take", 0, ()]), start(take(0), give(2), REST), start(take(0), take(0, 1), REST),
 )
 
 
