@@ -25,21 +25,21 @@ def least_lot(lists):
     return choice.best
 
 
-def _needed(told):
+def needed(told):
     """The tuples (moves, word) but for those that another one outdoes, sorted by their moves.
 
     It outdoes them with the same edges, no more moves, and no used lock that they don't use at the same edge too: where
     they agree with others it does so, too.
     """
-    needed = []
+    left = []
     kept = {}
     for moves, used, word in sorted([(least, _used_mask(one), one) for least, one in told]):
         edges = tuple([part[:2] for part in word])
         others = kept.setdefault(edges, [])
         if not any([other & used == other for other in others]):
             others.append(used)
-            needed.append((moves, word))
-    return needed
+            left.append((moves, word))
+    return left
 
 
 def _used_mask(word):
@@ -56,8 +56,8 @@ class Choice:
     def __init__(self, lists):
         self.lists = []
         for at, told in enumerate(lists):
-            needed = _needed(told)
-            self.lists.append([Candidate((at, which), moves, word) for which, (moves, word) in enumerate(needed)])
+            left = needed(told)
+            self.lists.append([Candidate((at, which), moves, word) for which, (moves, word) in enumerate(left)])
         # Of the names of each two candidates that were looked at whether their words agree.
         self.pairs = {}
         self.best = None

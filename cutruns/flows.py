@@ -11,7 +11,8 @@ MOST_PLACES = 160
 class Layout:
     """Places and moves while they are made.
 
-    A SPOT is a tuple: the procedure, the path of what stands around, and the locks of the holds around.
+    A SPOT is a tuple: the procedure, the path of what stands around, and the holds around, outermost first, each a
+    tuple of its lock and of the path of what stands in it.
     """
 
     def __init__(self):
@@ -19,6 +20,8 @@ class Layout:
         self.made = []
         # Of each procedure and path the place where the statement there begins.
         self.starts = {}
+        # Of each procedure and path of what stands in a hold the number of its give.
+        self.gives = {}
 
     def place(self, spot):
         """Make the next place."""
@@ -55,7 +58,8 @@ class Layout:
         if word == "skip":
             self.move(near, "step", None, far)
         elif word == "hold":
-            self.lay_hold((procedure, (*path, 0), (*held, statement[1])), statement, near, far)
+            inner = (*path, 0)
+            self.lay_hold((procedure, inner, (*held, (statement[1], inner))), statement, near, far)
         elif word == "loop":
             self.lay_loop((procedure, (*path, 0), held), statement, near, far)
         elif word == "either":
@@ -72,6 +76,8 @@ class Layout:
         self.move(near, "take", lock, taken)
         done = self.place(inner)
         self.lay_body(inner, body, taken, done)
+        procedure, path, _ = inner
+        self.gives[procedure, path] = len(self.made)
         self.move(done, "give", lock, far)
 
     def lay_loop(self, inner, statement, near, far):
@@ -102,6 +108,7 @@ class Flow:
         self._spots = layout.spots
         self._moves = layout.made
         self._starts = layout.starts
+        self._giving = layout.gives
         if len(self._spots) > MOST_PLACES:
             raise TooMany("places", MOST_PLACES)
         self._leaving = [[] for _ in self._spots]
@@ -154,7 +161,13 @@ class Flow:
     def locks_around(self, place):
         """The list of the locks of the holds within which the place lies, outermost first."""
         self._check_place(place)
-        return list(self._spots[place][2])
+        return [lock for lock, _ in self._spots[place][2]]
+
+    def give_around(self, place):
+        """The number of the give of the innermost hold within which the place lies, None if there is none."""
+        self._check_place(place)
+        procedure, _, held = self._spots[place]
+        return self._giving[procedure, held[-1][1]] if len(held) > 0 else None
 
     def _check_place(self, place):
         if not is_below(place, len(self._spots)):

@@ -38,7 +38,7 @@ def _tangle(words, leg):
 
 def nodes_of(words, leg):
     """The sorted list of the nodes of the leg."""
-    return list(_tangle(words, leg).names)
+    return list(_tangle(words, leg).node_names)
 
 
 def arrows_of(words, leg):
@@ -81,7 +81,7 @@ def is_order(words, value):
 def _is_order_of(tangle, value):
     if not is_list(value) or not all([_is_node(tangle, one) for one in value]):
         return False
-    if sorted(value) != tangle.names:
+    if sorted(value) != tangle.node_names:
         return False
     at = {name: position for position, name in enumerate(value)}
     return all([at[near] < at[far] for near, far in tangle.arrows()])
@@ -89,7 +89,7 @@ def _is_order_of(tangle, value):
 
 def _is_node(tangle, value):
     """Whether any value is a node of the tangle: True and False are no COUNTS in it either."""
-    return is_tuple_of(value, 3) and all([is_count(part) for part in value]) and value in tangle.names
+    return is_tuple_of(value, 3) and all([is_count(part) for part in value]) and value in tangle.node_names
 
 
 def is_bar(words, value):

@@ -76,7 +76,7 @@ class Tangle:
     def __init__(self, legs):
         self.legs = legs
         self.nodes = [(position, node) for position, leg in enumerate(legs) for node in leg.nodes]
-        self.names = [(position, node.part, node.side) for position, node in self.nodes]
+        self.node_names = [(position, node.part, node.side) for position, node in self.nodes]
         many = len(self.nodes)
         # Of each node the list of the nodes to which arrows lead from it, nodes being told by COUNTS here.
         self.later = [[far for far in range(many) if self._has_arrow(near, far)] for near in range(many)]
@@ -89,7 +89,7 @@ class Tangle:
 
     def arrows(self):
         """The sorted list of the arrows."""
-        names = self.names
+        names = self.node_names
         return [(names[near], names[far]) for near, behind in enumerate(self.later) for far in behind]
 
     def order(self):
@@ -107,7 +107,7 @@ class Tangle:
                 ahead[far] -= 1
                 if ahead[far] == 0:
                     ready.append(far)
-        return [self.names[at] for at in told]
+        return [self.node_names[at] for at in told]
 
     def is_ringless(self):
         """Whether the arrows have no ring."""
@@ -116,13 +116,13 @@ class Tangle:
     def ring(self):
         """A ring of the arrows, which have one."""
         told = self.order()
-        left = [at for at, name in enumerate(self.names) if name not in told]
+        left = [at for at, name in enumerate(self.node_names) if name not in told]
         # Each node that is left has one of them ahead of it, so going back comes round.
         walk = [left[0]]
         while walk.count(walk[-1]) == 1:
             walk.append([at for at in left if walk[-1] in self.later[at]][0])
         begin = walk.index(walk[-1])
-        return [self.names[at] for at in walk[begin + 1:][::-1]]
+        return [self.node_names[at] for at in walk[begin + 1:][::-1]]
 
 
 def turned(read):

@@ -10,22 +10,26 @@ from cutruns.programs import Program, with_threads
 def body_of(told, shape, depth, left):
     """A body of the shape; left is a list of how many statements there may be yet."""
     words = ("skip", "hold", "hold", "hold", "call", "either", "set", "when", "loop", "mark")
+    small = ("skip", "call", "set")
+    if shape[1] > 0:
+        words, small = (*words, "touch", "write", "write", "claim"), (*small, "touch", "write", "claim")
     found = []
     for _ in range(told.choice((0, 1, 1, 2, 2, 3))):
         if left[0] == 0:
             break
         left[0] -= 1
-        word = told.choice(words if depth < 4 else ("skip", "call", "set"))
-        count = {"hold": shape[0], "call": shape[3], "set": shape[2], "when": shape[2], "mark": 10}.get(word)
+        word = told.choice(words if depth < 4 else small)
+        bounds = {"hold": shape[0], "call": shape[3], "set": shape[2], "when": shape[2], "claim": shape[2], "mark": 10}
+        count = {**bounds, "touch": shape[1], "write": shape[1]}.get(word)
         counts = [] if count is None else [told.randrange(count)]
         bodies = {"hold": 1, "either": 2, "when": 2, "loop": 1}.get(word, 0)
         found.append((word, *counts, *[body_of(told, shape, depth + 1, left) for _ in range(bodies)]))
     return tuple(found)
 
 
-def program_of_seed(told, threads, size):
-    """A program with so many threads and about so many statements."""
-    shape = (told.choice((1, 2, 3)), 0, told.choice((1, 2)), told.choice((1, 2, 2, 3)))
+def program_of_seed(told, threads, size, cells=0):
+    """A program with so many threads and cells and about so many statements."""
+    shape = (told.choice((1, 2, 3)), cells, told.choice((1, 2)), told.choice((1, 2, 2, 3)))
     left = [size]
     bodies = [body_of(told, shape, 1, left) for _ in range(shape[3])]
     return Program(*shape[:3], bodies, [told.randrange(shape[3]) for _ in range(threads)])
@@ -233,3 +237,24 @@ def steps_from(machine, row, state, leg, last):
     for thread, number in machine.possible(state):
         if (thread, number) not in row[leg][1]:
             yield machine.after(state, (thread, number)), leg, (*last[:thread], number, *last[thread + 1:])
+
+
+def fewest_until(program, deep, most, holds):
+    """The fewest events to a state for which it holds, by the plain machine, stacks being at most so deep.
+
+    A tuple of them, None if there are none, and whether all states were looked at: not if one has a deeper stack, nor if
+    there are more than so many.
+    """
+    machine = Machine(program)
+    level = [machine.first()]
+    seen, whole, events = set(level), True, 0
+    while level and len(seen) <= most:
+        if any([holds(state) for state in level]):
+            return events, whole
+        later = {machine.after(state, event): True for state in level for event in machine.possible(state)}
+        found = [state for state in later if max([len(stack) for _, stack in state[0]]) <= deep]
+        whole = whole and len(found) == len(later)
+        level = [state for state in found if state not in seen]
+        seen.update(level)
+        events += 1
+    return None, whole and not level

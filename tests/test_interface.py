@@ -31,6 +31,15 @@ LISTED = {
     "tables": "least_table(program, row) is_table(program, row, value)",
     "judges": "is_closed(program, row, value) first_lacking(program, row, table) paper_apart(program, row) "
     "is_apart(program, row, value)",
+    "accesses": "touches(program, place) claims_at(program, place)",
+    "races": "is_race(program, value) races(program) race_schedule(program, race) is_broken(program, value) "
+    "broken_claims(program) claim_schedule(program, broken)",
+    "torn": "can_be_ahead(program, thread, move, other, far) ahead_legs(program, thread, move, other, far) "
+    "torn_row(program, torn) is_torn(program, value) torn_legs(program, torn) pulls(program, cell) torn_pairs(program, cell)",
+    "stills": "waits_for(program, place) waiting(program, state) still_schedule(program) moving_paper(program) "
+    "is_moving_paper(program, value) is_ring(program, state, value) ring_schedule(program) ringless_paper(program) "
+    "is_ringless_paper(program, value)",
+    "crowds": "crowd_of(program, kinds) ring_in_crowd(program) is_crowd_ring(program, value) meet_in_crowd(program, places)",
 }
 METHODS = {
     ("programs", "Program"): "bodies threads shape __eq__ locks cells modes",
