@@ -1,5 +1,8 @@
 """What is asked of values of any kind."""
 
+LETTERS = "abcdefghijklmnopqrstuvwxyz"
+DIGITS = "0123456789"
+
 
 def is_integer(value):
     """Whether the value is an int that is not a bool."""

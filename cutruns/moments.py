@@ -10,11 +10,12 @@ MOST_BANS = 12
 
 def check_goal(machine, goal):
     """Raise InvalidGoal unless it is a goal of the machine's program."""
-    if not _is_goal(machine, goal):
+    if not is_goal(machine, goal):
         raise InvalidGoal(goal)
 
 
-def _is_goal(machine, value):
+def is_goal(machine, value):
+    """Whether any value is a goal of the machine's program."""
     if not is_list(value) or not 1 <= len(value) <= MOST_ITEMS:
         return False
     if not all([is_tuple_of(one, 2) and _is_place(machine, one[1]) for one in value]):

@@ -154,13 +154,13 @@ def at_path(shape, body, path):
     """The statement of the body at the path."""
     check_body(shape, body)
     check_path(path)
-    statement = _found(body, path)
+    statement = found_at(body, path)
     if statement is None:
         raise NoSuchPath(path)
     return statement
 
 
-def _found(body, path):
+def found_at(body, path):
     """The statement at the path, None if there is none."""
     if path[0] >= len(body):
         return None
@@ -170,7 +170,7 @@ def _found(body, path):
     inner = bodies_within(statement)
     if path[1] >= len(inner):
         return None
-    return _found(inner[path[1]], path[2:])
+    return found_at(inner[path[1]], path[2:])
 
 
 def with_path(shape, body, path, part):
@@ -178,19 +178,20 @@ def with_path(shape, body, path, part):
     at_path(shape, body, path)
     if not is_body(shape, part):
         raise InvalidPart(part)
-    made = _replaced(body, path, part)
+    made = replaced(body, path, part)
     # The part may stand deeper in the body than it does by itself.
     if not is_body(shape, made):
         raise InvalidPart(part)
     return made
 
 
-def _replaced(body, path, part):
+def replaced(body, path, part):
+    """What comes of the body with the part in the place of the statement at the path, a body of the shape or not."""
     at = path[0]
     if len(path) == 1:
         return (*body[:at], *part, *body[at + 1:])
     statement = body[at]
     counts, _ = FORMS[statement[0]]
     which = 1 + counts + path[1]
-    inner = _replaced(statement[which], path[2:], part)
+    inner = replaced(statement[which], path[2:], part)
     return (*body[:at], (*statement[:which], inner, *statement[which + 1:]), *body[at + 1:])

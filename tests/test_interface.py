@@ -40,10 +40,22 @@ LISTED = {
     "is_moving_paper(program, value) is_ring(program, state, value) ring_schedule(program) ringless_paper(program) "
     "is_ringless_paper(program, value)",
     "crowds": "crowd_of(program, kinds) ring_in_crowd(program) is_crowd_ring(program, value) meet_in_crowd(program, places)",
+    "repairs": "wrapped(program, procedure, path, lock) unwrapped(program, procedure, path) exchanged(program, procedure, path) "
+    "repaired(program, wraps) is_helping(program, wraps) raceless(program, most)",
+    "texts": "is_of_sort(program, sort, value) written(program, sort, value) read(program, sort, text)",
+    "claims": "words() is_claim(value) contrary(claim) is_true(claim) paper_of(claim) is_paper_of(claim, value)",
+    "commands": "is_name(value) is_command(value) is_deed(value)",
+    "desk": "Desk() Trial(desk) tried(desk, action)",
 }
 METHODS = {
     ("programs", "Program"): "bodies threads shape __eq__ locks cells modes",
     ("flows", "Flow"): "moves moves_from begin_of end_of procedure_of place_ahead places many_moves",
+    ("desk", "Desk"): "names labels claim_of do do_all attempt attach fits lines copy again __len__ __getitem__ __contains__ __call__",
+    ("desk", "Trial"): "__enter__ __exit__",
+}
+GIVEN = {
+    "claim_of": "self, label", "do": "self, command", "do_all": "self, *commands", "attempt": "self, *commands", "attach": "self, label, paper",
+    "fits": "self, label", "lines": "self", "copy": "self", "__call__": "self, command",
 }
 
 
@@ -54,10 +66,18 @@ class InterfaceTest(unittest.TestCase):
             for name, told in re.findall(r"(\w+)\((.*?)\)", listed):
                 thing = getattr(module, name)
                 self.assertEqual(thing.__module__, module.__name__, name)
-                self.assertEqual(list(inspect.signature(thing).parameters), told.split(", "), name)
+                self.assertEqual(list(inspect.signature(thing).parameters), told.split(", ") if told else [], name)
 
     def test_methods(self):
         for (file, name), listed in METHODS.items():
             made = getattr(importlib.import_module("cutruns." + file), name)
             for method in listed.split():
                 self.assertIn(method, vars(made))
+
+    def test_arguments_of_the_desk(self):
+        desk = importlib.import_module("cutruns.desk").Desk
+        for method, given in GIVEN.items():
+            self.assertEqual([str(one) for one in inspect.signature(vars(desk)[method]).parameters.values()], given.split(", "))
+        self.assertEqual(list(inspect.signature(desk.again).parameters), ["lines"])
+        self.assertIsInstance(vars(desk)["again"], classmethod)
+        self.assertIsInstance(vars(desk)["names"], property)

@@ -71,6 +71,8 @@ def bound_names(tree):
             yield one.name
         elif isinstance(one, ast.alias):
             yield one.asname or one.name
+        elif isinstance(one, ast.ExceptHandler) and one.name:
+            yield one.name
 
 
 def top_names(tree):
@@ -148,7 +150,7 @@ class LanguageTest(unittest.TestCase):
                 if isinstance(one, ast.Compare) and isinstance(one.ops[0], (ast.Is, ast.IsNot)):
                     self.assertIsInstance(one.comparators[0], ast.Constant)
                 if isinstance(one, ast.FunctionDef):
-                    self.assertLessEqual({getattr(sign, "id", "") for sign in one.decorator_list}, {"property"})
+                    self.assertLessEqual({getattr(sign, "id", "") for sign in one.decorator_list}, {"property", "classmethod"})
                 if isinstance(one, ast.ClassDef):
                     self.assertEqual(one.decorator_list, [])
 
@@ -165,7 +167,7 @@ class LanguageTest(unittest.TestCase):
                     self.assertEqual(bound.count(name), 1, name)
             for one in ast.walk(tree):
                 if isinstance(one, ast.Name) and isinstance(one.ctx, ast.Load) and one.id not in set(bound) | top:
-                    self.assertIn(one.id, BUILTINS | {"property"})
+                    self.assertIn(one.id, BUILTINS | {"property", "classmethod"})
                 if isinstance(one, ast.Attribute):
                     self.assertNotIn(one.attr, NEVER | {"format", "format_map", "args"})
 
