@@ -26,7 +26,8 @@ def answer_of(page, command):
         return _shown_thing(page.things[parts[0]])
     if word == "same":
         return _yes_or_no(page.things[parts[0]] == page.things[parts[1]])
-    return _told_of(word, *_handed_parts(page, command))
+    handed_parts = _handed_parts(page, command)
+    return _told_of(word, *handed_parts)
 
 
 def _handed_parts(page, command):

@@ -39,7 +39,10 @@ def words():
 
 
 def _sides(word):
-    """The tuple of the word, or its contrary, that claims that something comes, and whether it is the word; or None."""
+    """The tuple of that of the word and its contrary that claims that something comes, and whether it is the word.
+
+    None for any value that is no word of a claim.
+    """
     for comes, never in PAIRS:
         if word == comes or word == never:
             return comes, word == comes
@@ -50,9 +53,10 @@ def is_claim(value):
     """Whether any value is a claim."""
     if not isinstance(value, tuple) or len(value) < 2 or not isinstance(value[1], Program):
         return False
-    if not isinstance(value[0], str) or _sides(value[0]) is None:
+    sides = _sides(value[0])
+    if sides is None:
         return False
-    comes, _ = _sides(value[0])
+    comes, _ = sides
     if comes in ALONE:
         return len(value) == 2
     return len(value) == 3 and _is_thing_of(comes, Machine(value[1]), value[2])

@@ -81,11 +81,11 @@ def is_command(value):
 def is_deed(value):
     """Whether any value is a string that is a deed by its words alone."""
     command = command_of(value)
-    return command is not None and command.is_deed
+    return command is not None and command.changes
 
 
 class Command:
-    """A command: its line, its word, and its parts with what they are.
+    """A command: its line, its word, its parts with what they are, and whether it is a deed.
 
     Of a claim the claim's own word stands among the parts, behind the label.
     """
@@ -95,7 +95,7 @@ class Command:
         self.word = word
         self.kinds = kinds
         self.parts = parts
-        self.is_deed = word in DEEDS or word == "claim"
+        self.changes = word in DEEDS or word == "claim"
 
 
 def command_of(value):
@@ -107,7 +107,7 @@ def command_of(value):
     kinds = _kinds_behind(word, rest)
     if kinds is None:
         return None
-    if len(kinds) > 0 and kinds[-1] == "lines":
+    if word == "program":
         rest = [*rest[:1], " ".join(rest[1:])]
     if len(rest) != len(kinds):
         return None
@@ -132,8 +132,6 @@ def claim_parts(text):
 
 def _part_of(kind, text):
     """What the text of a part of this kind tells, None if it is none."""
-    if kind == "said":
-        return text
     if kind == "count":
         return _count_of(text)
     if kind == "counts":

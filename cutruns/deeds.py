@@ -1,7 +1,7 @@
 """What the deeds of a desk do to its page."""
 
-from cutruns.claims import is_claim, is_true
-from cutruns.errors import InvalidClaim, NoRepair
+from cutruns.claims import is_true
+from cutruns.errors import NoRepair
 from cutruns.pages import NAMED, claim_on, shown_state, with_claim, with_thing, without_claim, without_thing
 from cutruns.programs import with_threads
 from cutruns.repairs import exchanged, raceless, repaired, unwrapped, wrapped
@@ -26,10 +26,7 @@ def page_behind(page, command):
 
 
 def _with_claim(page, label, text):
-    claim = claim_on(page.things, text)
-    if not is_claim(claim):
-        raise InvalidClaim(claim)
-    return with_claim(page, label, text, shown_state(is_true(claim)))
+    return with_claim(page, label, text, shown_state(is_true(claim_on(page.things, text))))
 
 
 def _remade(word, program, parts):

@@ -51,7 +51,7 @@ def _book_behind(book, line):
         return _taken_back(book)
     if command.word == "redo":
         return _done_again(book)
-    if not command.is_deed:
+    if not command.changes:
         return book, answer_of(book.page, command)
     page = page_behind(book.page, command)
     if len(book.made) >= MOST_DEEDS:

@@ -72,7 +72,8 @@ def _reached_states(machine, deep):
 
 def _sorted_states(came):
     # Of reached states with the same threads the owners are the same, too.
-    return sorted(list(came), key=lambda state: state[0])
+    found = {threads: owners for threads, owners in came}
+    return [(threads, found[threads]) for threads in sorted(list(found))]
 
 
 def _schedule_to(came, state):

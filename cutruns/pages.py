@@ -72,12 +72,8 @@ def claim_on(things, text):
 def state_of_claim(things, text):
     """The state of a label with these words."""
     claim = claim_on(things, text)
-    if claim is None:
-        return GONE
     try:
-        if not is_claim(claim):
-            return GONE
-        return shown_state(is_true(claim))
+        return shown_state(is_true(claim)) if is_claim(claim) else GONE
     except TooMany:
         return GONE
 

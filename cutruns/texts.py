@@ -119,7 +119,7 @@ class Scan:
         """Take the next sign: whether it can stand here."""
         if self.token != "":
             if _goes_on(self.token, sign):
-                self.token += sign
+                self.token = self.token + sign
                 return True
             self._close_token()
         if self.closed:

@@ -106,8 +106,8 @@ def least_ring(waits, many_locks):
     for locks in _unlike_locks(len(waits), many_locks):
         # The last one waits for a lock of the first one.
         lists = [one.by_lock.get((lock, locks[at - 1]), []) for at, (one, lock) in enumerate(zip(waits, locks))]
-        lot = _lot_below(lists, best)
-        if lot is not None:
+        lot = least_lot(lists) if all([len(told) > 0 for told in lists]) else None
+        if lot is not None and (best is None or lot[0] < best[0]):
             best = (lot[0], list(zip(locks, lot[1])))
     return best
 
@@ -118,18 +118,6 @@ def _unlike_locks(many, many_locks):
     for _ in range(many):
         found = [[*locks, lock] for locks in found for lock in range(many_locks) if lock not in locks]
     return found
-
-
-def _lot_below(lists, best):
-    """The least lot of words that agree, None if there is none, or none with fewer moves than the best one."""
-    if not all([len(told) > 0 for told in lists]):
-        return None
-    if best is not None and sum([min([moves for moves, _ in told]) for told in lists]) >= best[0]:
-        return None
-    lot = least_lot(lists)
-    if lot is None or (best is not None and lot[0] >= best[0]):
-        return None
-    return lot
 
 
 def rings_of(many):

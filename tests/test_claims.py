@@ -149,7 +149,7 @@ class ClaimsTest(Case):
                         "race": lambda state: stand([thing[0][:2], thing[0][2:4]])(state),
                         "broken": lambda state: (state[0][thing[0][0]][1][-1], state[0][thing[0][0]][0]) == thing[0][1:],
                         "still": lambda state: is_still(program, state),
-                        "ring": lambda state: plain_rings(program, state) != [],
+                        "ring": lambda state: plain_rings(Flow(program), state) != [],
                     }[word]
                     fewest, whole = fewest_until(program, deep, 3000, holds)
                 if fewest is not None or whole:

@@ -171,6 +171,8 @@ class KeepingTest(DeskCase):
         self.refused(desk, UnknownName, {"value": "y"}, "copy x y")
         self.answers(desk, ("drop g3", "-"), ("row x -", "-"))
         self.refused(desk, TooMany, {"what": "names", "limit": 8}, "goal g3 0@0")
+        # What is kept under a name already may be another one.
+        self.answers(desk, ("drop x", "-"), (BARE, "-"), ("threads p 0", "-"), ("wrap p 0 0 0", "-"), ("names", "g0 g1 g2 g4 g5 g6 g7 p"))
 
     def test_200_deeds(self):
         desk = self.made(BARE, "claim k still p", *["threads p 0,0"] * 198)

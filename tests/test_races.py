@@ -91,7 +91,7 @@ class RacesTest(Case):
         self.is_true(is_race(BARE, race))
         for value in (*STRANGE, *bent(race), (1, 2, 0, 2, 0), (0, 2, 0, 2, 0), (2, 3, 0, 2, 0), (0, 2, 1, 2, 1), (0, 0, 1, 2, 0),
                       (0, 2, 3, 3, 0), (0, 2, 2, 5, 0), (0, 2, 2, 3, 2), (0, 2, 1, 2), (0, 2, 1, 2, 0, 0), (0, 3, 1, 2, 0), (0, 3, 2, 3, 0),
-                      (0, 5, 2, 4, 1), (-1, 2, 1, 2, 0), (False, 2, True, 2, False)):
+                      (0, 5, 2, 4, 1), (0, 6, 1, 2, 0), (0, 2, 1, 6, 0), (-1, 2, 1, 2, 0), (False, 2, True, 2, False)):
             self.is_false(is_race(BARE, value))
             self.fails(InvalidRace, {"value": value}, race_schedule, BARE, value)
         self.is_false(is_race(HALF, (0, 3, 1, 9, 0)))

@@ -53,7 +53,7 @@ def plain_sound(program):
         return None
     goals = [[(race[0], race[1]), (race[2], race[3])] for race in plain_races(program)]
     fewest, whole = fewest_until(
-        program, deep, 3000, lambda state: any([stand(goal)(state) for goal in goals]) or plain_rings(program, state) != [])
+        program, deep, 3000, lambda state: any([stand(goal)(state) for goal in goals]) or plain_rings(Flow(program), state) != [])
     return False if fewest is not None else True if whole else None
 
 
@@ -242,6 +242,14 @@ class FewestTest(Case):
         self.same(is_helping(Program(3, 1, 1, CROSSED.bodies(), [0, 1]), [(0, (0,), 2), (1, (0,), 2)]), True)
         self.same(raceless(Program(3, 1, 1, CROSSED.bodies(), [0, 1]), 2),
                   [[(0, (0,), 2), (1, (0,), 2)]])
+
+    def test_lists_that_are_no_repairs(self):
+        # The write is six deep, so neither it nor the statements around it can be wrapped.
+        deep = (WRITE,)
+        for _ in range(5):
+            deep = (("either", deep, ()),)
+        self.same(raceless(Program(1, 1, 1, [deep, (TOUCH,)], [0, 1]), 2), [])
+        self.same(raceless(Program(1, 1, 1, [deep[0][1], (TOUCH,)], [0, 1]), 2), [[(0, (0,) * at, 0), (1, (0,), 0)] for at in (1, 3, 5, 7, 9)])
 
     def test_no_locks(self):
         self.same(raceless(Program(0, 1, 1, [(WRITE,)], [0, 0]), 2), [])

@@ -7,7 +7,7 @@ from cutruns.callings import deepest
 from cutruns.errors import InvalidPlace, InvalidProgram, InvalidState, TooMany
 from cutruns.flows import Flow
 from cutruns.judges import first_lacking, is_closed
-from cutruns.machine import begin_state, done, events, is_state, is_still, replayed
+from cutruns.machine import Machine, begin_state, done, events, is_state, is_still, replayed
 from cutruns.programs import Program, with_threads
 from cutruns.stills import (
     is_moving_paper,
@@ -51,9 +51,9 @@ def all_row(program):
     return [(tuple([(thread, "at", begin) for thread, begin in enumerate(begins)]), ())]
 
 
-def plain_waiting(program, state):
+def plain_waiting(flow, state):
     """The lock for which each thread waits that does."""
-    flow, found = Flow(program), {}
+    found = {}
     for thread, (_, stack) in enumerate(state[0]):
         moves = [flow.moves()[number] for number in flow.moves_from(stack[-1])]
         if moves and all([move[1] == "take" and move[2] == moves[0][2] for move in moves]) and state[1][moves[0][2]] is not None:
@@ -61,15 +61,33 @@ def plain_waiting(program, state):
     return found
 
 
-def plain_rings(program, state):
+def plain_rings(flow, state):
     """All rings of the state."""
-    wants = plain_waiting(program, state)
+    wants = plain_waiting(flow, state)
     found = []
     for many in range(1, len(wants) + 1):
         for ring in itertools.permutations(wants, many):
             if all([state[1][wants[one]] == other for one, other in zip(ring, [*ring[1:], ring[0]])]):
                 found.append(list(ring))
     return found
+
+
+def tangled(told):
+    """A program whose procedures take one lock, and another one within it, in this way or that; the last one never ends.
+
+    What comes of it comes with stacks of one place, too: the last procedure calls but itself, and takes nothing.
+    """
+    bodies = []
+    for _ in range(3):
+        ways = []
+        for _ in range(told.choice((1, 2, 2))):
+            one, other = told.sample(range(3), 2)
+            inner = held(other) if told.random() < 0.8 else ("loop", (held(other, ("set", 1)),))
+            more = (("when", 1, (held(told.randrange(3)),), ()),) if told.random() < 0.4 else ()
+            ways.append((*[("skip",)] * told.randrange(3), held(one, *[("skip",)] * told.randrange(2), inner, *more)))
+        bodies.append(ways[0] if len(ways) == 1 else (("either", *ways),))
+    ends = (("skip",),) * told.randrange(1, 4)
+    return Program(3, 0, 2, [*bodies, ends, (("loop", ()), ("call", 4))], [told.randrange(3), told.randrange(3), told.choice((0, 1, 2, 3, 4, 4))])
 
 
 def with_calls(more):
@@ -145,8 +163,8 @@ class RingTest(Case):
             program = program_of_seed(random.Random(seed), 3, 6)
             state, told = begin_state(program), random.Random(seed)
             for _ in range(12):
-                self.same(waiting(program, state), sorted(plain_waiting(program, state).items()))
-                rings = plain_rings(program, state)
+                self.same(waiting(program, state), sorted(plain_waiting(Flow(program), state).items()))
+                rings = plain_rings(Flow(program), state)
                 for many in range(4):
                     for ring in itertools.product(range(3), repeat=many):
                         self.same(is_ring(program, state, list(ring)), list(ring) in rings)
@@ -263,7 +281,7 @@ class ComesTest(Case):
             deep = deepest(program)
             for comes, tells in (
                 (lambda state: is_still(program, state), lambda: still_schedule(program)),
-                (lambda state: len(plain_rings(program, state)) > 0, lambda: (ring_schedule(program) or [None])[0]),
+                (lambda state: len(plain_rings(Flow(program), state)) > 0, lambda: (ring_schedule(program) or [None])[0]),
             ):
                 fewest, whole = fewest_until(program, deep or 4, 2500, comes)
                 schedule = tells()
@@ -275,6 +293,41 @@ class ComesTest(Case):
                         self.same(len(schedule), fewest)
                 met.append((schedule is not None, whole or fewest is not None))
         self.assertGreater(min([met.count((True, True)), met.count((False, True))]), 50)
+
+    def test_tangled_programs_against_all_schedules(self):
+        met = []
+        for seed in range(70):
+            program = tangled(random.Random(seed))
+            machine, flow = Machine(program), Flow(program)
+            still, _ = fewest_until(program, 1, 50000, machine.stands_still)
+            ring, _ = fewest_until(program, 1, 50000, lambda state: plain_rings(flow, state) != [])
+            self.holds(program, still, ring)
+            met.append((still is not None, ring is not None))
+        self.assertGreater(min([met.count(told) for told in ((True, True), (False, True), (False, False))]), 3)
+
+    def test_the_nearest_of_several_places(self):
+        # Both ways wait for the lock 1 with the lock 0 held; the shorter one is told, whichever stands first.
+        far, near = (("skip",), ("skip",), held(0, held(1))), (held(0, held(1)),)
+        for ways in ((far, near), (near, far)):
+            self.holds(Program(2, 0, 1, [(("either", *ways),), (held(1, held(0)),)], [0, 1]), 3, 3)
+
+    def test_words_that_do_not_agree(self):
+        # Each one holds what the other one wants, but has used it behind its own taking: neither can have come first.
+        def used(one, other):
+            return (held(one, ("loop", (held(other, ("set", 1)),)), ("when", 1, (held(other),), ())),)
+
+        program = Program(2, 0, 2, [used(0, 1), used(1, 0)], [0, 1])
+        self.holds(program, None, None)
+        # One of them alone may have.
+        self.holds(Program(2, 0, 2, [used(0, 1), (held(1, held(0)),)], [0, 1]), 8, 8)
+        # The same with another thread that ends: what it takes on its way bars nothing.
+        self.holds(Program(2, 0, 2, [used(0, 1), used(1, 0), (held(0), held(1))], [0, 1, 2]), None, None)
+
+    def test_an_end_or_a_wait_whichever_is_nearer(self):
+        # The third thread waits at once for what the ring holds, or ends by one move, or has far to go to either.
+        for third, length in (((held(0),), 2), ((("skip",), held(0)), 3), ((("either", (held(0, *[("skip",)] * 5),), (("skip",),)),), 3),
+                              ((("either", (*[("skip",)] * 5, held(1)), (("skip",), ("skip",))),), 5)):
+            self.holds(Program(2, 0, 1, [*FACING.bodies(), third], [0, 1, 2]), length, 2)
 
     def test_just_one_of_schedule_and_paper(self):
         for seed in range(60):
@@ -344,7 +397,18 @@ class LimitsTest(Case):
         program = with_calls(2)
         for schedule in (still_schedule(program), ring_schedule(program)[0]):
             self.same([len(schedule), is_still(program, replayed(program, schedule))], [400, True])
-        for action in (still_schedule, ring_schedule):
-            self.fails(TooMany, {"what": "events", "limit": 400}, action, with_calls(3))
+        # Also where one thread alone has more.
+        for more in (3, 4, 6):
+            for action in (still_schedule, ring_schedule):
+                self.fails(TooMany, {"what": "events", "limit": 400}, action, with_calls(more))
+        # Those that end count, too.
+        for more, skips in ((0, 2), (0, 3)):
+            program = with_calls(more)
+            program = Program(2, 0, 1, [*program.bodies(), (("skip",),) * skips], [0, 3, 4])
+            self.same(len(ring_schedule(program)[0]), 398)
+            if skips == 2:
+                self.same(len(still_schedule(program)), 400)
+            else:
+                self.fails(TooMany, {"what": "events", "limit": 400}, still_schedule, program)
         for action in (moving_paper, ringless_paper):
             self.same(action(with_calls(3)), None)
