@@ -13,10 +13,13 @@ from cutruns.rows import one_goal
 from cutruns.stills import ring_schedule, still_schedule
 
 WANTS = {
-    "program": "N*", "goal": "N*", "row": "N*", "threads": "p*", "wrap": "p***", "unwrap": "p**", "exchange": "p**", "mend": "p*", "copy": "Nn", "drop": "n",
-    "forget": "k", "undo": "", "redo": "", "state": "k", "states": "", "claimed": "k", "names": "", "show": "n", "same": "no", "places": "p", "words": "pr*",
+    "program": "N*", "goal": "N*", "row": "N*", "threads": "p*", "wrap": "p***", "unwrap": "p**", "exchange": "p**", "mend": "p*",
+    "copy": "Nn", "drop": "n",
+    "forget": "k", "undo": "", "redo": "", "state": "k", "states": "", "claimed": "k", "names": "", "show": "n", "same": "no",
+    "places": "p", "words": "pr*",
     "ahead": "p**", "length": "pg", "moments": "pr", "races": "p", "claims": "p", "stands": "p", "rings": "p", "repairs": "p*",
-    "meet": "pg", "apart": "pg", "comes": "pr", "never": "pr", "race": "p*", "norace": "p*", "broken": "p*", "kept": "p*", "still": "p", "moving": "p", "ring": "p",
+    "meet": "pg", "apart": "pg", "comes": "pr", "never": "pr", "race": "p*", "norace": "p*", "broken": "p*", "kept": "p*", "still": "p",
+    "moving": "p", "ring": "p",
     "ringless": "p",
 }
 SORTS = {"p": "program", "g": "goal", "r": "row"}

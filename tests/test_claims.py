@@ -70,9 +70,12 @@ class ClaimsTest(Case):
                     self.fails(InvalidClaim, {"value": (word, SOME, value)}, is_true, (word, SOME, value))
         for word in ("still", "moving", "ring", "ringless"):
             self.same([is_claim((word, SOME)), is_claim((word, SOME, None)), is_claim((word,))], [True, False, False])
-        for value in (*STRANGE, ("meets", SOME, [(0, 0)]), ("meet", None, [(0, 0)]), ("still", "program"), (("meet",), SOME, [(0, 0)]), (None, SOME), (0, SOME),
-                      ("Still", SOME), ("broken", SOME, (0, 2, 0)), ("broken", SOME, (0, 0, 1)), ("broken", SOME, (2, 2, 1)), ("race", SOME, (1, 3, 0, 3, 0)),
-                      ("race", SOME, (0, 2, 1, 3, 0)), ("race", SOME, (0, 3, 1, 3, 1)), ("meet", SOME, [(0, 4)]), ("comes", SOME, []), (["still"], SOME)):
+        for value in (*STRANGE, ("meets", SOME, [(0, 0)]), ("meet", None, [(0, 0)]), ("still", "program"), (("meet",), SOME, [(0, 0)]),
+                      (None, SOME), (0, SOME),
+                      ("Still", SOME), ("broken", SOME, (0, 2, 0)), ("broken", SOME, (0, 0, 1)), ("broken", SOME, (2, 2, 1)),
+                      ("race", SOME, (1, 3, 0, 3, 0)),
+                      ("race", SOME, (0, 2, 1, 3, 0)), ("race", SOME, (0, 3, 1, 3, 1)), ("meet", SOME, [(0, 4)]), ("comes", SOME, []),
+                      (["still"], SOME)):
             self.is_false(is_claim(value))
             for action, more in ((contrary, ()), (is_true, ()), (paper_of, ()), (is_paper_of, (None,))):
                 self.fails(InvalidClaim, {"value": value}, action, value, *more)
@@ -100,17 +103,22 @@ class ClaimsTest(Case):
         self.same(table, paper_apart(FACING, [(((0, "at", 4), (1, "at", 8)), ())]))
         self.same(paper_of(("apart", FACING, [(0, 4), (1, 8)])), table)
         # A schedule is no list of schedules, nor the other way round; a ring's schedule alone is no paper.
-        for claim, value in ((("meet", SOME, [(0, 2)]), [[(0, 0)]]), (("comes", SOME, [(((0, "at", 2),), ())]), [(0, 0)]), (("ring", FACING), [(0, 0), (1, 5)]),
-                             (("still", FACING), ([(0, 0), (1, 5)], [0, 1])), (("ring", FACING), [[(0, 0), (1, 5)], [0, 1]]), (("still", FACING), [(0, 0)]),
-                             (("ring", FACING), ([(0, 0), (1, 5)], [0])), (("ring", FACING), ([(0, 0), (1, 5)], [0, 1], 0)), (("moving", ONE_WAY), [])):
+        for claim, value in ((("meet", SOME, [(0, 2)]), [[(0, 0)]]), (("comes", SOME, [(((0, "at", 2),), ())]), [(0, 0)]),
+                             (("ring", FACING), [(0, 0), (1, 5)]),
+                             (("still", FACING), ([(0, 0), (1, 5)], [0, 1])), (("ring", FACING), [[(0, 0), (1, 5)], [0, 1]]),
+                             (("still", FACING), [(0, 0)]),
+                             (("ring", FACING), ([(0, 0), (1, 5)], [0])), (("ring", FACING), ([(0, 0), (1, 5)], [0, 1], 0)),
+                             (("moving", ONE_WAY), [])):
             self.is_false(is_paper_of(claim, value))
         for claim, value in ((("meet", SOME, [(0, 2)]), ((1, 0), (0, 0))), (("comes", SOME, [(((0, "at", 2),), ())]), ([(1, 0), (0, 0)],)),
                              (("ring", FACING), (((0, 0), (1, 5)), (1, 0))), (("still", FACING), ((1, 5), (0, 0)))):
             self.is_true(is_paper_of(claim, value))
 
     def test_values_that_are_no_papers(self):
-        for claim in (("meet", SOME, [(0, 2)]), ("comes", SOME, ROW), ("race", SOME, THINGS["race"]), ("broken", SOME, (1, 2, 1)), ("still", FACING), ("ring", FACING),
-                      ("apart", FACING, [(0, 4), (1, 8)]), ("moving", ONE_WAY), ("ringless", ONE_WAY), ("kept", SOME, (1, 2, 1)), ("norace", SOME, THINGS["race"])):
+        for claim in (("meet", SOME, [(0, 2)]), ("comes", SOME, ROW), ("race", SOME, THINGS["race"]), ("broken", SOME, (1, 2, 1)),
+                      ("still", FACING), ("ring", FACING),
+                      ("apart", FACING, [(0, 4), (1, 8)]), ("moving", ONE_WAY), ("ringless", ONE_WAY), ("kept", SOME, (1, 2, 1)),
+                      ("norace", SOME, THINGS["race"])):
             for value in (*STRANGE, [None], [(0, 99)], ([], []), [[], []], [(0, [], [])]):
                 self.is_false(is_paper_of(claim, value))
 

@@ -41,7 +41,8 @@ class CrowdTest(Case):
         self.same(crowd_of(with_threads(ROUND, [2, 1]), [0, 0, 1]).threads(), [2, 2, 1])
 
     def test_rings(self):
-        for program, copies, length in ((TURNS, 2, 4), (THREE, 3, 8), (FACING, 2, 2), (ROUND, 3, 3), (FOUR, 4, 4), (OWN, 1, 2), (with_threads(FACING, [1, 0, 0]), 2, 2)):
+        for program, copies, length in ((TURNS, 2, 4), (THREE, 3, 8), (FACING, 2, 2), (ROUND, 3, 3), (FOUR, 4, 4), (OWN, 1, 2),
+                                        (with_threads(FACING, [1, 0, 0]), 2, 2)):
             kinds, schedule, ring = ring_in_crowd(program)
             crowd = crowd_of(program, kinds)
             self.same([len(kinds), len(schedule), sorted(ring)], [copies, length, list(range(copies))])
@@ -101,7 +102,8 @@ class CrowdTest(Case):
                      ([0, 1], [(0, 0), (0, 1), (0, 2), (0, 3), (0, 4), other], [0]), ([1, 0], [(0, takes[2]), (1, takes[0])], [0, 1])):
             ring = is_crowd_ring(FACING, good)
             self.same(ring, good[2] != [0])
-        for bad in (*STRANGE, *bent(value), ([0], [first], [0]), ([0, 0], [first, other], [0, 1]), ([0, 1], [first], [0, 1]), ([0, 1], [first, other, more], [0, 1]),
+        for bad in (*STRANGE, *bent(value), ([0], [first], [0]), ([0, 0], [first, other], [0, 1]), ([0, 1], [first], [0, 1]),
+                    ([0, 1], [first, other, more], [0, 1]),
                     ([0, 1, 0, 0, 1], [first, other], [0, 1]), ([0, 2], [first, other], [0, 1]), ([], [], []), ([0, 1], [first, other], []),
                     ([0, 1], [first, other]), ([0, 1], [first, other], [0, 1], [])):
             self.is_false(is_crowd_ring(FACING, bad))

@@ -58,7 +58,8 @@ def lines_of(program):
 def all_of(desk):
     """All that can be told of a desk."""
     kept = [(name, desk.do("show " + name)) for name in desk.names]
-    claims = [(label, desk.do("claimed " + label), desk.do("state " + label), desk.claim_of(label) is None, desk.fits(label)) for label in desk.labels]
+    claims = [(label, desk.do("claimed " + label), desk.do("state " + label), desk.claim_of(label) is None,
+               desk.fits(label)) for label in desk.labels]
     undone = desk.copy()
     behind = []
     while True:
@@ -127,19 +128,24 @@ class KeepingTest(DeskCase):
 
     def test_copies_and_drops(self):
         desk = self.made(BARE, "goal g 0@0", "copy q p", "copy h g")
-        self.answers(desk, ("same p q", "yes"), ("same g h", "yes"), ("wrap q 0 0 0", "-"), ("same p q", "no"), ("drop h", "-"), ("goal h 0@1", "-"), ("same g h", "no"),
+        self.answers(desk, ("same p q", "yes"), ("same g h", "yes"), ("wrap q 0 0 0", "-"), ("same p q", "no"), ("drop h", "-"),
+                     ("goal h 0@1", "-"), ("same g h", "no"),
                      ("names", "g h p q"), ("drop p", "-"), ("show q", BARE[10:].replace("write 0", "hold 0 {; write 0; }")), ("drop g", "-"))
         self.is_true(desk["q"] == program_of("locks 1\ncells 1\nmodes 1\nthreads 0 0\nprocedure\nhold 0 {\nwrite 0\n}\n"))
 
     def test_programs_are_changed(self):
         desk = self.made(BARE, CROSS)
-        self.answers(desk, ("threads p 0", "-"), ("threads p 0,0,0", "-"), ("wrap p 0 0 0", "-"), ("unwrap p 0 0", "-"), ("exchange c 1 0", "-"), ("rings c", "no"),
+        self.answers(desk, ("threads p 0", "-"), ("threads p 0,0,0", "-"), ("wrap p 0 0 0", "-"), ("unwrap p 0 0", "-"),
+                     ("exchange c 1 0", "-"), ("rings c", "no"),
                      ("exchange c 1 0", "-"), ("rings c", "yes"), ("mend p 1", "-"), ("races p", "-"), ("mend p 0", "-"))
         self.same([desk["p"].threads(), desk["p"].bodies()], [[0, 0, 0], [(("hold", 0, (("write", 0),)),)]])
         for command, error, told in (
-            ("threads p 1", InvalidThreads, {"value": [1]}), ("threads p 0,0,0,0,0", InvalidThreads, {"value": [0] * 5}), ("wrap p 1 0 0", InvalidProcedure, {"value": 1}),
-            ("wrap p 0 0.0 0", InvalidPath, {"value": [0, 0]}), ("wrap p 0 1 0", NoSuchPath, {"path": [1]}), ("wrap p 0 0 1", InvalidLock, {"value": 1}),
-            ("unwrap p 0 0.0.0", NotHold, {}), ("exchange p 0 0", NotNested, {}), ("exchange c 2 0", InvalidProcedure, {"value": 2}), ("mend p 3", InvalidMost, {"value": 3}),
+            ("threads p 1", InvalidThreads, {"value": [1]}), ("threads p 0,0,0,0,0", InvalidThreads, {"value": [0] * 5}),
+            ("wrap p 1 0 0", InvalidProcedure, {"value": 1}),
+            ("wrap p 0 0.0 0", InvalidPath, {"value": [0, 0]}), ("wrap p 0 1 0", NoSuchPath, {"path": [1]}),
+            ("wrap p 0 0 1", InvalidLock, {"value": 1}),
+            ("unwrap p 0 0.0.0", NotHold, {}), ("exchange p 0 0", NotNested, {}), ("exchange c 2 0", InvalidProcedure, {"value": 2}),
+            ("mend p 3", InvalidMost, {"value": 3}),
             ("mend c 1", NoRepair, {}),
         ):
             self.refused(desk, error, told, command)
@@ -150,14 +156,18 @@ class KeepingTest(DeskCase):
     def test_questions(self):
         desk = self.made(BARE, CROSS, MODES, "goal g 0@0,1@1", "goal f 0@9,0@9", "row r 0>0/1>0", "row s -", "row x 3>0")
         self.answers(
-            desk, ("places p", "2"), ("races p", "0,0,1,0,0"), ("races c", "-"), ("claims m", "0,2,1"), ("claims p", "-"), ("stands c", "yes"), ("stands p", "no"),
-            ("rings c", "yes"), ("rings m", "no"), ("length p g", "1"), ("moments p r", "2"), ("moments p s", "0"), ("words p r 1", "1"), ("words c s 0", "5"),
+            desk, ("places p", "2"), ("races p", "0,0,1,0,0"), ("races c", "-"), ("claims m", "0,2,1"), ("claims p", "-"),
+            ("stands c", "yes"), ("stands p", "no"),
+            ("rings c", "yes"), ("rings m", "no"), ("length p g", "1"), ("moments p r", "2"), ("moments p s", "0"), ("words p r 1", "1"),
+            ("words c s 0", "5"),
             ("ahead c 1 0.0.0", "8"), ("ahead m 0 1", "2"), ("repairs p 0", "0"), ("repairs p 2", "1"), ("repairs m 2", "1"), ("repairs c 2", "0"),
         )
         for command, error, told in (
             ("length p f", InvalidGoal, {"value": [(0, 9), (0, 9)]}), ("length m g", InvalidGoal, {"value": [(0, 0), (1, 1)]}),
-            ("moments p x", InvalidRow, {"value": [(((3, "behind", 0),), ())]}), ("words p r 2", InvalidThread, {"value": 2}), ("words p x 2", InvalidThread, {"value": 2}),
-            ("words p x 1", InvalidRow, {"value": [(((3, "behind", 0),), ())]}), ("ahead c 2 0", InvalidProcedure, {"value": 2}), ("ahead c 0 0.0", InvalidPath, {"value": [0, 0]}),
+            ("moments p x", InvalidRow, {"value": [(((3, "behind", 0),), ())]}), ("words p r 2", InvalidThread, {"value": 2}),
+            ("words p x 2", InvalidThread, {"value": 2}),
+            ("words p x 1", InvalidRow, {"value": [(((3, "behind", 0),), ())]}), ("ahead c 2 0", InvalidProcedure, {"value": 2}),
+            ("ahead c 0 0.0", InvalidPath, {"value": [0, 0]}),
             ("ahead c 0 1", NoSuchPath, {"path": [1]}), ("repairs p 3", InvalidMost, {"value": 3}),
         ):
             self.refused(desk, error, told, command)
@@ -183,7 +193,8 @@ class KeepingTest(DeskCase):
         self.refused(desk, InvalidThreads, {"value": [1]}, "threads p 1")
         self.refused(desk, UnknownName, {"value": "q"}, "drop q")
         self.refused(desk, InvalidClaim, {"value": ("race", desk["p"], (0,))}, "claim l race p 0")
-        self.answers(desk, ("undo", "threads p 0,0"), ("redo", "threads p 0,0"), ("state k", "false"), ("undo", "threads p 0,0"), ("drop p", "k gone"))
+        self.answers(desk, ("undo", "threads p 0,0"), ("redo", "threads p 0,0"), ("state k", "false"), ("undo", "threads p 0,0"),
+                     ("drop p", "k gone"))
         self.refused(desk, TooMany, {"what": "deeds", "limit": 200}, "forget k")
         self.same(len(Desk.again(desk.lines())), 200)
 
@@ -212,9 +223,12 @@ class WrongCommandsTest(DeskCase):
     def test_names_under_which_nothing_of_the_sort_is_kept(self):
         desk = self.made(BARE, "goal g 0@0", "row r -", "claim k still p")
         for command, name in (
-            ("drop q", "q"), ("show q", "q"), ("copy x q", "q"), ("threads g 0", "g"), ("wrap r 0 0 0", "r"), ("same q p", "q"), ("same p q", "q"), ("same p g", "g"),
-            ("same g r", "r"), ("length p r", "r"), ("length g r", "g"), ("moments p g", "g"), ("words r g 0", "r"), ("words p g 0", "g"), ("claim l meet p r", "r"),
-            ("claim l comes p g", "g"), ("claim l meet g p", "g"), ("claim l ring r", "r"), ("claim l race q 0", "q"), ("mend q 9", "q"), ("repairs g 9", "g"),
+            ("drop q", "q"), ("show q", "q"), ("copy x q", "q"), ("threads g 0", "g"), ("wrap r 0 0 0", "r"), ("same q p", "q"),
+            ("same p q", "q"), ("same p g", "g"),
+            ("same g r", "r"), ("length p r", "r"), ("length g r", "g"), ("moments p g", "g"), ("words r g 0", "r"), ("words p g 0", "g"),
+            ("claim l meet p r", "r"),
+            ("claim l comes p g", "g"), ("claim l meet g p", "g"), ("claim l ring r", "r"), ("claim l race q 0", "q"), ("mend q 9", "q"),
+            ("repairs g 9", "g"),
         ):
             self.refused(desk, UnknownName, {"value": name}, command)
         for command in ("state l", "claimed l", "forget l", "state p"):
@@ -243,11 +257,16 @@ class ClaimsTest(DeskCase):
     def test_states(self):
         desk = self.made(BARE, "goal g 0@0,1@0", "row r 0>0")
         self.answers(
-            desk, ("claim k meet p g", "k true"), ("claim a apart p g", "a false"), ("claim b comes p r", "b true"), ("claim x race p 0,0,1,0,0", "x true"),
-            ("claim s still p", "s false"), ("states", "a false, b true, k true, s false, x true"), ("state s", "false"), ("claimed x", "race p 0,0,1,0,0"),
-            ("wrap p 0 0 0", "x gone"), ("threads p 0", "a gone, k gone"), ("states", "a gone, b true, k gone, s false, x gone"), ("undo", "threads p 0"),
-            ("undo", "wrap p 0 0 0"), ("states", "a false, b true, k true, s false, x true"), ("redo", "wrap p 0 0 0"), ("state x", "gone"), ("drop r", "b gone"),
-            ("goal r 0@0", "-"), ("drop r", "-"), ("row r 1>0", "b true"), ("drop g", "a gone, k gone"), ("goal g 0@1,1@1", "a false, k true"), ("forget k", "-"),
+            desk, ("claim k meet p g", "k true"), ("claim a apart p g", "a false"), ("claim b comes p r", "b true"),
+            ("claim x race p 0,0,1,0,0", "x true"),
+            ("claim s still p", "s false"), ("states", "a false, b true, k true, s false, x true"), ("state s", "false"),
+            ("claimed x", "race p 0,0,1,0,0"),
+            ("wrap p 0 0 0", "x gone"), ("threads p 0", "a gone, k gone"), ("states", "a gone, b true, k gone, s false, x gone"),
+            ("undo", "threads p 0"),
+            ("undo", "wrap p 0 0 0"), ("states", "a false, b true, k true, s false, x true"), ("redo", "wrap p 0 0 0"), ("state x", "gone"),
+            ("drop r", "b gone"),
+            ("goal r 0@0", "-"), ("drop r", "-"), ("row r 1>0", "b true"), ("drop g", "a gone, k gone"),
+            ("goal g 0@1,1@1", "a false, k true"), ("forget k", "-"),
             ("claim k moving p", "k true"),
         )
         self.same(desk.labels, ["a", "b", "k", "s", "x"])
@@ -271,14 +290,18 @@ class ClaimsTest(DeskCase):
         self.refused(desk, TooMany, {"what": "labels", "limit": 8}, "claim x still p")
         self.refused(desk, LabelTaken, {"label": "k7"}, "claim k7 still p")
         self.refused(desk, InvalidClaim, {"value": ("race", desk["p"], (0,))}, "claim x race p 0")
-        self.answers(desk, ("forget k3", "-"), ("claim x still p", "x false"), ("drop p", "k0 gone, k1 gone, k2 gone, k4 gone, k5 gone, k6 gone, k7 gone, x gone"))
+        self.answers(desk, ("forget k3", "-"), ("claim x still p", "x false"),
+                     ("drop p", "k0 gone, k1 gone, k2 gone, k4 gone, k5 gone, k6 gone, k7 gone, x gone"))
 
     def test_all_twelve_words(self):
         desk = self.made(CROSS, MODES, BARE, "goal g 0@2,1@8", "goal h 0@4,1@8", "row r 0>1/1>6", "row s 0@4/0@4,1@10")
         for words, state in (
-            ("meet c g", "true"), ("apart c g", "false"), ("meet c h", "false"), ("apart c h", "true"), ("comes c r", "true"), ("never c r", "false"), ("comes c s", "false"),
-            ("never c s", "true"), ("race p 0,0,1,0,0", "true"), ("norace p 0,0,1,0,0", "false"), ("broken m 0,2,1", "true"), ("kept m 0,2,1", "false"), ("still c", "true"),
-            ("moving c", "false"), ("still m", "false"), ("moving m", "true"), ("ring c", "true"), ("ringless c", "false"), ("ring p", "false"), ("ringless p", "true"),
+            ("meet c g", "true"), ("apart c g", "false"), ("meet c h", "false"), ("apart c h", "true"), ("comes c r", "true"),
+            ("never c r", "false"), ("comes c s", "false"),
+            ("never c s", "true"), ("race p 0,0,1,0,0", "true"), ("norace p 0,0,1,0,0", "false"), ("broken m 0,2,1", "true"),
+            ("kept m 0,2,1", "false"), ("still c", "true"),
+            ("moving c", "false"), ("still m", "false"), ("moving m", "true"), ("ring c", "true"), ("ringless c", "false"),
+            ("ring p", "false"), ("ringless p", "true"),
         ):
             self.answers(desk, ("claim k " + words, "k " + state), ("claimed k", words), ("state k", state), ("forget k", "-"))
 
@@ -334,7 +357,8 @@ class ManyTest(DeskCase):
         desk = Desk()
         self.same(desk.do_all(BARE, "places p", "undo", "redo"), ["-", "2", BARE, BARE])
         ahead = all_of(desk)
-        for at, bad, cause in ((0, "undo it", InvalidCommand), (1, "drop q", UnknownName), (2, "threads p 3", InvalidThreads), (3, None, InvalidCommand), (2, "goal p 0@0", NameTaken),
+        for at, bad, cause in ((0, "undo it", InvalidCommand), (1, "drop q", UnknownName), (2, "threads p 3", InvalidThreads),
+                               (3, None, InvalidCommand), (2, "goal p 0@0", NameTaken),
                                (1, "mend p 0", NoRepair), (2, "claim k race p 0", InvalidClaim), (1, "redo", NothingToRedo)):
             commands = ["goal g 0@0", "wrap p 0 0 0", "unwrap p 0 0", "claim k still p"][:at] + [bad, "drop p"]
             for action in (desk.do_all, desk.attempt):
@@ -346,7 +370,8 @@ class ManyTest(DeskCase):
     def test_attempt(self):
         desk = self.made(BARE, "claim k race p 0,0,1,0,0")
         ahead = all_of(desk)
-        self.same(desk.attempt("wrap p 0 0 0", "names", "undo", "drop p", "undo", "undo", "states"), ["k gone", "p", "wrap p 0 0 0", "k gone", "drop p", "claim k race p 0,0,1,0,0", "-"])
+        self.same(desk.attempt("wrap p 0 0 0", "names", "undo", "drop p", "undo", "undo", "states"),
+                  ["k gone", "p", "wrap p 0 0 0", "k gone", "drop p", "claim k race p 0,0,1,0,0", "-"])
         self.same(all_of(desk), ahead)
         self.refused(desk, NothingToRedo, {}, "redo")
 
@@ -376,7 +401,8 @@ class ManyTest(DeskCase):
         for value in (*STRANGE, "undo", {0: BARE}):
             if value != [] and value != [None] and value != (None,) and value != (((),),):
                 self.fails(InvalidDeeds, {"position": None}, Desk.again, value)
-        for lines, at in (([None], 0), ([BARE, "undo"], 1), ([BARE, "names", "drop q"], 1), (["drop q", BARE, ["drop p"]], 2), ((BARE, "show p"), 1), ([BARE, "drop  p"], 1)):
+        for lines, at in (([None], 0), ([BARE, "undo"], 1), ([BARE, "names", "drop q"], 1), (["drop q", BARE, ["drop p"]], 2),
+                          ((BARE, "show p"), 1), ([BARE, "drop  p"], 1)):
             self.fails(InvalidDeeds, {"position": at}, Desk.again, lines)
         for lines, at, cause in ((["drop q"], 0, UnknownName), ([BARE, "threads p 2", "drop q"], 1, InvalidThreads), ([BARE, BARE], 1, NameTaken)):
             with self.assertRaises(CommandFailed) as caught:
@@ -534,15 +560,21 @@ def any_command(told):
         program = program_of_seed(told, told.choice((1, 2, 2)), told.choice((3, 4)), 1)
         return f"program {name} {lines_of(program)}"
     if told.random() < 0.35:
-        said = told.choice((f"meet {name} {goal}", f"apart {name} {goal}", f"comes {name} {row}", f"never {name} {row}", f"still {name}", f"moving {name}", f"ring {name}",
+        said = told.choice((f"meet {name} {goal}", f"apart {name} {goal}", f"comes {name} {row}", f"never {name} {row}", f"still {name}",
+                            f"moving {name}", f"ring {name}",
                             f"ringless {name}", f"race {name} 0,{place},1,{told.randrange(8)},0", f"kept {name} 0,{place},1"))
         return f"claim {label} {said}"
     return told.choice((
-        f"goal {goal} 0@{place}", f"goal {goal} 0@{place},1@{told.randrange(8)}", f"row {row} 0@{place}", f"row {row} 0>{place}/1>{told.randrange(5)}!0>1", f"row {any_name} -",
-        f"threads {name} {count}", f"threads {name} 0,{count}", f"wrap {name} {count} {path} {count}", f"unwrap {name} {count} {path}", f"exchange {name} {count} {path}",
-        f"mend {name} {count}", f"copy {any_name} {told.choice('pqghrs')}", f"drop {any_name}", f"forget {label}", "undo", "undo", "redo", f"state {label}", "states",
-        f"claimed {label}", "names", f"show {any_name}", f"same {any_name} {told.choice('pqghrs')}", f"places {name}", f"words {name} {row} {count}", f"ahead {name} {count} {path}",
-        f"length {name} {goal}", f"moments {name} {row}", f"races {name}", f"claims {name}", f"stands {name}", f"rings {name}", f"repairs {name} {count}",
+        f"goal {goal} 0@{place}", f"goal {goal} 0@{place},1@{told.randrange(8)}", f"row {row} 0@{place}",
+        f"row {row} 0>{place}/1>{told.randrange(5)}!0>1", f"row {any_name} -",
+        f"threads {name} {count}", f"threads {name} 0,{count}", f"wrap {name} {count} {path} {count}", f"unwrap {name} {count} {path}",
+        f"exchange {name} {count} {path}",
+        f"mend {name} {count}", f"copy {any_name} {told.choice('pqghrs')}", f"drop {any_name}", f"forget {label}", "undo", "undo", "redo",
+        f"state {label}", "states",
+        f"claimed {label}", "names", f"show {any_name}", f"same {any_name} {told.choice('pqghrs')}", f"places {name}",
+        f"words {name} {row} {count}", f"ahead {name} {count} {path}",
+        f"length {name} {goal}", f"moments {name} {row}", f"races {name}", f"claims {name}", f"stands {name}", f"rings {name}",
+        f"repairs {name} {count}",
     ))
 
 
@@ -566,7 +598,8 @@ class PlainTest(DeskCase):
                     self.same([command, desk.do(command)], [command, answer])
                     met[command.split(" ")[0]] = True
                     plain = later
-                self.same([desk.names, desk.labels, desk.lines(), len(desk)], [sorted(plain.things), sorted(plain.claims), plain.done, len(plain.done)])
+                self.same([desk.names, desk.labels, desk.lines(), len(desk)],
+                          [sorted(plain.things), sorted(plain.claims), plain.done, len(plain.done)])
             self.same(desk.do("states"), plain.told("states", []))
             self.same(all_of(Desk.again(desk.lines()))[:3], all_of(desk)[:3])
             for label in desk.labels:
@@ -576,7 +609,8 @@ class PlainTest(DeskCase):
                     paper = paper_of(claim) if desk.do("state " + label) == "true" else None
                     self.same(paper is not None and is_paper_of(claim, paper), desk.do("state " + label) == "true")
         self.assertGreater(len(met), 25)
-        self.assertLessEqual({"NameTaken", "LabelTaken", "UnknownName", "UnknownLabel", "NothingToUndo", "NothingToRedo", "InvalidClaim", "InvalidGoal", "NoSuchPath"}, set(failed))
+        self.assertLessEqual({"NameTaken", "LabelTaken", "UnknownName", "UnknownLabel", "NothingToUndo", "NothingToRedo", "InvalidClaim",
+                              "InvalidGoal", "NoSuchPath"}, set(failed))
 
     def test_meetings_of_the_desk(self):
         desk = self.made(CROSS, "goal g 0@2,1@8")

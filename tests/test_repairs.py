@@ -78,7 +78,8 @@ def plain_repaired(program, wraps):
 
 class StatementsTest(Case):
     def test_wrapped(self):
-        for procedure, path, lock in ((0, [0], 0), (0, (1, 0, 1), 1), (0, [1, 0, 1, 0, 0], 0), (1, [0, 0, 0, 0, 1], 0), (1, (1,), 1), (0, [2, 1, 0], 1)):
+        for procedure, path, lock in ((0, [0], 0), (0, (1, 0, 1), 1), (0, [1, 0, 1, 0, 0], 0), (1, [0, 0, 0, 0, 1], 0), (1, (1,), 1),
+                                      (0, [2, 1, 0], 1)):
             made = wrapped(SOME, procedure, path, lock)
             plain = with_statement(SOME.bodies()[procedure], path, lambda one: [("hold", lock, (one,))])
             self.same(made.bodies()[procedure], plain)
@@ -228,7 +229,8 @@ class FewestTest(Case):
         self.same(raceless(with_threads(BARE, [0, 0]), 2), [[(0, (0,), 0)]])
         two = Program(2, 1, 1, [(WRITE, SKIP)], [0, 0])
         self.same(raceless(two, 1), [[(0, (0,), 0)], [(0, (0,), 1)]])
-        self.same([is_helping(two, wraps) for wraps in ([], [(0, (1,), 0)], [(0, (0,), 0)], [(0, (0,), 0), (0, (1,), 1)])], [False, False, True, True])
+        self.same([is_helping(two, wraps) for wraps in ([], [(0, (1,), 0)], [(0, (0,), 0)], [(0, (0,), 0), (0, (1,), 1)])],
+                  [False, False, True, True])
         self.same(is_helping(BARE, [(0, (0,), 0)]), False)
 
     def test_within_one_another(self):

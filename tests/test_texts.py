@@ -98,7 +98,8 @@ class WrittenTest(Case):
             "legs": ([], [[], [], [], []], [(0, 0)], [[(2, 0)]], [[(0, 0)] * 200, [(0, 0)] * 201], [{}], [[[0, 0]]]),
             "goal": ([], [(0, 4)], [(0, 1), (0, 2)], [(2, 0)], [[0, 0]], [(0, 0)] * 5),
             "row": ([], [((), ())] * 4, [[(), ()]], [(((0, "at", 4),), ())], [(((0, "on", 1),), ())], [((), ((0, 4),))], [((), (), ())]),
-            "word": ((), [], (("start", None, ()),), (("start", None, ()), ("take", 2, ()), ("cut", None, ())), (("start", None, (3,)), ("cut", None, ()))),
+            "word": ((), [], (("start", None, ()),), (("start", None, ()), ("take", 2, ()), ("cut", None, ())),
+                     (("start", None, (3,)), ("cut", None, ()))),
         }.items():
             for value in values:
                 self.is_false(is_of_sort(SOME, sort, value))
@@ -169,15 +170,18 @@ class ReadTest(Case):
             self.same(unread(text), len(text))
 
     def test_written_things_of_another_sort(self):
-        for text in ("0", "-", "at", "()", "[()]", "[(0 0 0)]", "((0 0))", "[[0 0]]", "12345678", "9" * 400, "[(0 " + "1" * 7000 + ")]", "[]", "[-]", "(((((())))))"):
+        for text in ("0", "-", "at", "()", "[()]", "[(0 0 0)]", "((0 0))", "[[0 0]]", "12345678", "9" * 400, "[(0 " + "1" * 7000 + ")]",
+                     "[]", "[-]", "(((((())))))"):
             self.unread_at("row", text, None)
             self.unread_at("word", text, None)
             self.same(unread(text), None)
         # A tuple in the place of a list, a list in that of a tuple.
         for sort, text in (("schedule", "((0 0))"), ("schedule", "()"), ("legs", "[()]"), ("legs", "([])"), ("goal", "((0 0))"), ("goal", "[[0 0]]"),
-                           ("row", "((() ()))"), ("row", "[[() ()]]"), ("row", "[([] ())]"), ("word", "[(start - ()) (cut - ())]"), ("word", "((start - []) (cut - ()))")):
+                           ("row", "((() ()))"), ("row", "[[() ()]]"), ("row", "[([] ())]"), ("word", "[(start - ()) (cut - ())]"),
+                           ("word", "((start - []) (cut - ()))")):
             self.unread_at(sort, text, None)
-        for sort, text in (("schedule", "[(0 4)]"), ("goal", "[(0 0) (0 1)]"), ("goal", "[(0 4)]"), ("row", "[(((0 at 9)) ())]"), ("legs", "[[] [] [] []]"),
+        for sort, text in (("schedule", "[(0 4)]"), ("goal", "[(0 0) (0 1)]"), ("goal", "[(0 4)]"), ("row", "[(((0 at 9)) ())]"),
+                           ("legs", "[[] [] [] []]"),
                            ("schedule", "[" + " ".join(["(0 0)"] * 401) + "]"), ("goal", "[(1000000000 0)]"), ("goal", "[(0 10000000000000000000)]")):
             self.unread_at(sort, text, None)
 
@@ -197,7 +201,8 @@ class ReadTest(Case):
             for thing, text in things:
                 for _ in range(250):
                     at = told.randrange(len(text) + 1)
-                    other = told.choice((text[:at], text[:at] + told.choice(signs) + text[at:], text[:at] + told.choice(signs) + text[at + 1:], text[:at] + text[at + 1:]))
+                    other = told.choice((text[:at], text[:at] + told.choice(signs) + text[at:],
+                                         text[:at] + told.choice(signs) + text[at + 1:], text[:at] + text[at + 1:]))
                     try:
                         value = read(SOME, sort, other)
                         self.same([written(SOME, sort, value), is_of_sort(SOME, sort, value)], [other, True])

@@ -50,10 +50,13 @@ def arguments():
     legs = meeting(SOME, ROW)
     runs = [(thread, run_to(SOME, thread, ROW, word)) for thread, word in zip((0, 1), words)]
     return {
-        "program": SOME, "row": ROW, "goal": [(0, 2), (1, 9)], "thread": 0, "other": 1, "place": 2, "move": 1, "far": 7, "state": begin_state(SOME), "word": word,
-        "words": words, "procedure": 0, "path": [0], "lock": 0, "table": table, "legs": legs, "schedule": sum(legs, []), "runs": runs, "kinds": [0, 1],
+        "program": SOME, "row": ROW, "goal": [(0, 2), (1, 9)], "thread": 0, "other": 1, "place": 2, "move": 1, "far": 7,
+        "state": begin_state(SOME), "word": word,
+        "words": words, "procedure": 0, "path": [0], "lock": 0, "table": table, "legs": legs, "schedule": sum(legs, []), "runs": runs,
+        "kinds": [0, 1],
         "places": [(0, 2), (1, 9)], "cell": 0, "wraps": [(0, (0,), 0)], "most": 0, "threads": [0, 1], "shape": SOME.shape(), "body": SOME.bodies()[0],
-        "part": (("skip",),), "deep": 1, "leg": 0, "race": races(SOME)[0], "broken": broken_claims(SOME)[0], "torn": (0, 1, 2, 1, 6, None), "sort": "row",
+        "part": (("skip",),), "deep": 1, "leg": 0, "race": races(SOME)[0], "broken": broken_claims(SOME)[0], "torn": (0, 1, 2, 1, 6, None),
+        "sort": "row",
         "claim": ("comes", SOME, ROW), "through": throughs(SOME, 0, ROW)[0], "event": (0, 0), "text": program_text(SOME),
     }
 
@@ -130,8 +133,10 @@ class ConventionsTest(Case):
             self.is_false(is_race(SOME, value))
         for value in ((False, 1, 2, 1, 6, None), (0, 1, 2, True, 6, None), (0, 1, 2, 1, 6, False)):
             self.is_false(is_torn(SOME, value))
-        for action, more in ((touches, (True,)), (claims_at, (False,)), (pulls, (False,)), (raceless, (True,)), (crowd_of, ([True],)), (meet_in_crowd, ([(0, True)],)),
-                             (wrapped, (False, [0], 0)), (wrapped, (0, [False], 0)), (wrapped, (0, [0], False)), (torn_row, ((0, 1, 2, 1, True, None),)),
+        for action, more in ((touches, (True,)), (claims_at, (False,)), (pulls, (False,)), (raceless, (True,)), (crowd_of, ([True],)),
+                             (meet_in_crowd, ([(0, True)],)),
+                             (wrapped, (False, [0], 0)), (wrapped, (0, [False], 0)), (wrapped, (0, [0], False)),
+                             (torn_row, ((0, 1, 2, 1, True, None),)),
                              (reached, (False,)), (one_goal, ([(0, False)],))):
             with self.assertRaises(HoldError):
                 action(SOME, *more)
@@ -240,7 +245,8 @@ class TogetherTest(Case):
 
     def test_a_desk_tries_repairs(self):
         desk = Desk()
-        desk.do_all("program p locks 1; cells 1; modes 1; threads 0 1; procedure; write 0; procedure; touch 0", "claim k race p 0,0,1,2,0", "claim r ringless p")
+        desk.do_all("program p locks 1; cells 1; modes 1; threads 0 1; procedure; write 0; procedure; touch 0", "claim k race p 0,0,1,2,0",
+                    "claim r ringless p")
         self.same([race[1:4:2] for race in races(desk["p"])], [(0, 2)])
         self.same(tried(desk, lambda held: [held.do("mend p 2"), held.do("races p"), held.do("states")]), ["k gone", "-", "k gone, r true"])
         self.same([desk.do("states"), desk.do("repairs p 2"), len(desk)], ["k true, r true", "1", 3])
