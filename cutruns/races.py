@@ -18,7 +18,7 @@ from cutruns.rows import one_goal
 
 
 class Scene:
-    """A program and where its threads can come, which is looked for when it is asked."""
+    """A program and where its threads can come, which is looked for where it is asked."""
 
     def __init__(self, program):
         self.source = program
@@ -34,6 +34,11 @@ class Scene:
         if home not in self.reaches:
             self.reaches[home] = wide_reach(self.source, thread)
         return self.reaches[home]
+
+    def reach_all(self):
+        """Look where all threads can come: TooMany if there are too many withins, whatever is asked then."""
+        for thread in range(len(self.machine.homes)):
+            self.reach_of(thread)
 
     def _words_at(self, thread, place):
         key = (self.machine.homes[thread], place)
@@ -85,6 +90,7 @@ def is_race(program, value):
 def races(program):
     """The sorted list of all races of the program."""
     scene = Scene(program)
+    scene.reach_all()
     found = []
     for thread, other in _pairs_of_threads(scene):
         found.extend(scene.races_of(thread, other))
@@ -124,6 +130,7 @@ def is_broken(program, value):
 def broken_claims(program):
     """The sorted list of all tuples by which claims of the program are broken."""
     scene = Scene(program)
+    scene.reach_all()
     found = []
     for thread in range(len(scene.machine.homes)):
         found.extend(scene.broken_by(thread))

@@ -193,6 +193,10 @@ class LimitsTest(Case):
         for action, more in ((races, ()), (is_race, (race,)), (broken_claims, ()), (is_broken, (broken,)),
                              (race_schedule, (race,)), (claim_schedule, (broken,))):
             self.fails(TooMany, WITHINS, action, WIDE, *more)
+        # Also where no two places touch one cell, and none claims a mode.
+        quiet = Program(4, 0, 4, [(("loop", (HOLDS, SETS, *[SPLIT] * 31)),), (("skip",),)], [1])
+        for action in (races, broken_claims):
+            self.fails(TooMany, WITHINS, action, quiet)
         # Values that are none whatever comes are none.
         for value in (None, (0, place, 1, 0, 0), (1, place, 0, place, 0)):
             self.is_false(is_race(WIDE, value))
